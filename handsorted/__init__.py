@@ -1,0 +1,1 @@
+"""Handsorted: lists that are sorted by a rule and by hand."""
