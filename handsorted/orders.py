@@ -52,6 +52,11 @@ def do_moves(order, *moves):
     return result
 
 
+def places_of(order):
+    """Return a dict from the ids of an order to their places, from 0."""
+    return {row_id: place for place, row_id in enumerate(order)}
+
+
 def neighbours(order):
     """Yield the tuples (id before, id) for every id of the order, with 0 before the first one."""
     before = 0
