@@ -145,3 +145,8 @@ class HandList:
         for row_id in ids:
             if row_id not in self._history.now.table:
                 raise UnknownId(row_id)
+
+
+def items_of(hand):
+    """Return the items of a list as a dict from ids to fields."""
+    return {row_id: fields for row_id, fields, _ in hand.walk()}

@@ -1,15 +1,10 @@
 """Joining two hand-sorted lists that come from one."""
 
 from handsorted.errors import BadMove, TooMany
-from handsorted.handlist import HandList
+from handsorted.handlist import HandList, items_of
 from handsorted.items import rule_order
 from handsorted.merging import conflicts, merge_orders
 from handsorted.pins import lay, least_pins
-
-
-def items_of(hand):
-    """Return the items of a list as a dict from ids to fields."""
-    return {row_id: fields for row_id, fields, _ in hand.walk()}
 
 
 def merged_value(old, one, other, prefer):
