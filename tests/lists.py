@@ -22,7 +22,7 @@ def held(hand):
     return (hand.width, hand.rule, items_of(hand), hand.pins, hand.order, hand.straight, list(hand.walk()), len(hand))
 
 
-def steps(hand, step):
+def steps(hand, step, look):
     """Return what the list holds after each step, as long as there is something to do."""
     found = []
     while True:
@@ -30,16 +30,19 @@ def steps(hand, step):
             step()
         except NothingToDo:
             return found
-        found.append(held(hand))
+        found.append(look(hand))
 
 
-def whole(hand):
-    """Return what a list holds, what it held and will hold by each undo and redo; leave it as it is."""
-    now = held(hand)
-    past = steps(hand, hand.undo)
+def whole(hand, look=held):
+    """Return what a list holds, what it held and will hold by each undo and redo; leave it as it is.
+
+    It may be anything with undo and redo, if look tells what that holds.
+    """
+    now = look(hand)
+    past = steps(hand, hand.undo, look)
     for _ in past:
         hand.redo()
-    future = steps(hand, hand.redo)
+    future = steps(hand, hand.redo, look)
     for _ in future:
         hand.undo()
     return (past, now, future)
