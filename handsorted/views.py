@@ -22,11 +22,12 @@ class ListView:
 
     def visible(self):
         """Return the order of the view: the ids that it shows, in the sequence of the list."""
-        return [row_id for row_id, fields, _ in self._hand.walk() if self._shows(fields)]
+        # Not by walk, which yields: __len__ asks this, and goes through plain methods and properties alone.
+        return [row_id for row_id in self._hand.order if self._shows(self._hand.fields_of(row_id))]
 
     def hidden(self):
         """Return the other ids of the list, in its sequence."""
-        return [row_id for row_id, fields, _ in self._hand.walk() if not self._shows(fields)]
+        return [row_id for row_id in self._hand.order if not self._shows(self._hand.fields_of(row_id))]
 
     def walk(self):
         """Yield (id, fields) of the visible items in their order, as the list is when the iteration begins."""

@@ -2,6 +2,7 @@
 
 import unittest
 from random import Random
+from unittest.mock import patch
 
 from handsorted.errors import BadMove, HandError
 from handsorted.handlist import HandList
@@ -148,6 +149,86 @@ class Shown(unittest.TestCase):
         self.check(view.narrowed(column=1, low=2, high=2), hand, [])
         ListView(hand, 1, 2, 2).move(2, behind=0)
         self.assertEqual(hand.order, [1, 2])
+
+
+class Length(unittest.TestCase):
+    """len(view) follows the list behind every change, also of a view that was narrowed."""
+
+    def setUp(self):
+        self.hand = filled((1, 9), (2, 8), (3, 7), (4, 6), (5, 5), rule=(1,), width=2)
+        self.view = ListView(self.hand, 1, 2, 5)
+        self.narrow = self.view.narrowed(2, 6, 7)
+        self.check(4, 2)
+
+    def check(self, shown, narrow):
+        self.assertEqual((len(self.view), len(self.narrow)), (shown, narrow))
+        self.assertEqual((len(self.view.visible()), len(self.narrow.visible())), (shown, narrow))
+        self.assertEqual((type(len(self.view)), type(len(self.narrow))), (int, int))
+
+    def test_items(self):
+        self.hand.add_item(6, 5, 7)
+        self.check(5, 3)
+        self.hand.add_item(7, 2, 9)
+        self.check(6, 3)
+        self.hand.add_item(8, 9, 7)
+        self.check(6, 3)
+        self.hand.drop(6, 1)
+        self.check(5, 2)
+        self.hand.drop(3, 4)
+        self.check(3, 0)
+        self.hand.drop(2, 5, 7, 8)
+        self.check(0, 0)
+        for lengths in ((3, 0), (5, 2), (6, 3), (6, 3), (5, 3), (4, 2)):
+            self.hand.undo()
+            self.check(*lengths)
+        self.hand.redo()
+        self.check(5, 3)
+
+    def test_fields(self):
+        self.hand.set_fields(1, 2, 6)
+        self.check(5, 3)
+        self.hand.set_fields(3, 3, 8)
+        self.check(5, 2)
+        self.hand.set_fields(4, 6, 6)
+        self.check(4, 1)
+        for lengths in ((5, 2), (5, 3), (4, 2)):
+            self.hand.undo()
+            self.check(*lengths)
+
+    def test_rule_moves_and_pins(self):
+        for change in (
+            lambda: self.hand.move(4, 1),
+            lambda: self.hand.set_rule((-2,)),
+            lambda: self.view.move(5),
+            lambda: self.narrow.move(3),
+            lambda: self.hand.set_rule(()),
+            lambda: self.hand.reset(*self.hand.order),
+        ):
+            change()
+            self.check(4, 2)
+
+    def test_a_group(self):
+        with self.hand.group():
+            self.hand.drop(3)
+            self.check(3, 1)
+            self.hand.set_fields(5, 5, 6)
+            self.check(3, 2)
+        self.check(3, 2)
+        self.hand.undo()
+        self.check(4, 2)
+
+    def test_nothing_that_yields_is_asked(self):
+        self.hand.move(4)
+        with patch.object(HandList, "walk", side_effect=AssertionError("walked")):
+            self.check(4, 2)
+
+    def test_it_changes_nothing(self):
+        self.hand.move(4)
+        self.hand.move(3)
+        self.hand.undo()
+        before = whole(self.hand)
+        self.check(4, 2)
+        self.assertEqual(whole(self.hand), before)
 
 
 class Moves(unittest.TestCase):
